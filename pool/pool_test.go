@@ -693,30 +693,68 @@ func TestOpenCrashes(t *testing.T) {
 	})
 }
 
-// A first page that is torn at any byte: the block is known when the array is found if all of it is there, and only then.
-func TestOpenTornAtEachByte(t *testing.T) {
+// A page that is torn at any byte, by whichever call: it is committed if all of it is there, and only then. Nothing is behind it.
+func TestTornAtEachByte(t *testing.T) {
 	g := api.Geometry{Blocks: 7, Pages: 20, Sector: 32, Wear: 1, Rounds: 1}
-	for at := 1; at <= 2; at++ {
-		for n := range 65 {
-			for _, mask := range [][]byte{upTo(n, 64), flip(upTo(n, 64)), append(make([]byte, n), 255)[:max(1, min(64, n))]} {
-				p := newPair(t, fmt.Sprintf("operation %d torn at byte %d", at, n), g, crash(at, mask...))
-				if b, err := p.open(2, orderOf(1)); b != 0 || err != api.ErrPower {
-					t.Fatalf("%d, %v", b, err)
-				}
-				first := p.read(0)[0]
-				whole, _ := plainPage(g, api.Head{Kind: kindOfHead, Ns: 2, Lba: 1, Epoch: orderOf(1).Epoch, Counter: orderOf(1).Counter}, nil, nil)
-				clear(whole[len(whole)-markBytes:])
-				if _, done := page.Done(g, first, api.KindBlock); done != bytes.Equal(first, whole) {
-					t.Errorf("%s: known: %v, whole: %v", p.name, done, bytes.Equal(first, whole))
-				}
-				for n, rest := range p.read(0)[1:] {
-					if !bytes.Equal(rest, all(255, len(rest))) {
-						t.Errorf("%s: page %d has something", p.name, n+1)
-					}
+	h := dataHead(2, 5)
+	opened := func(p *pair) { p.opens(2, orderOf(1), 0) }
+	begun := func(p *pair) { p.begins(2, orderOf(1), 0) }
+	written := func(p *pair) {
+		opened(p)
+		p.errs("Write", p.write(0, 1, h, payloadOf(g, 5), tagOf(5)), api.OK)
+	}
+	for _, torn := range []struct {
+		name    string
+		from    int
+		to      int
+		page    int
+		prepare func(p *pair)
+		do      func(p *pair) api.Errno
+	}{
+		{"open", 1, 2, 0, func(*pair) {}, func(p *pair) api.Errno { _, err := p.open(2, orderOf(1)); return err }},
+		{"begin", 1, 1, 0, func(*pair) {}, func(p *pair) api.Errno { _, err := p.begin(2, orderOf(1)); return err }},
+		{"seal", 2, 2, 0, begun, func(p *pair) api.Errno { return p.seal(0) }},
+		{"write", 3, 4, 1, opened, func(p *pair) api.Errno { return p.write(0, 1, h, payloadOf(g, 5), tagOf(5)) }},
+		{"copy", 5, 6, 2, written, func(p *pair) api.Errno { return p.copy(0, 2, p.pool.Place(0, 1)) }},
+	} {
+		whole, _ := plainPage(g, api.Head{Kind: kindOfHead, Ns: 2, Lba: 1, Epoch: orderOf(1).Epoch, Counter: orderOf(1).Counter}, nil, nil)
+		if torn.page > 0 {
+			whole, _ = plainPage(g, h, payloadOf(g, 5), tagOf(5))
+		}
+		clear(whole[len(whole)-markBytes:])
+		for at := torn.from; at <= torn.to; at++ {
+			for n := range 65 {
+				for _, mask := range [][]byte{upTo(n, 64), flip(upTo(n, 64)), only(n)} {
+					p := newPair(t, fmt.Sprintf("%s: operation %d torn at byte %d", torn.name, at, n), g, crash(at, mask...))
+					torn.prepare(p)
+					p.errs("what is torn", torn.do(p), api.ErrPower)
+					p.isTorn(torn.page, whole)
 				}
 			}
 		}
 	}
+}
+
+// isTorn asks that a page of block 0 is committed if it is that whole one, and only then, and that no page behind it has anything.
+func (p *pair) isTorn(n int, whole []byte) {
+	p.t.Helper()
+	pages := p.read(0)
+	told, err := page.Read(p.want.c.g, pages[n])
+	if done := err == api.OK && told.Done; done != bytes.Equal(pages[n], whole) {
+		p.t.Errorf("%s: committed: %v, whole: %v", p.name, done, !done)
+	}
+	for i, rest := range pages[n+1:] {
+		if !bytes.Equal(rest, all(255, len(rest))) {
+			p.t.Errorf("%s: page %d has something", p.name, n+1+i)
+		}
+	}
+}
+
+// only is a mask by which one byte of so many is done, and none behind it.
+func only(n int) []byte {
+	mask := make([]byte, min(64, n+1))
+	mask[len(mask)-1] = 255
+	return mask
 }
 
 func flip(b []byte) []byte {
@@ -1107,38 +1145,6 @@ func TestWriteFails(t *testing.T) {
 					p.errs("what comes behind", p.write(0, 2, dataHead(2, 6), nil, nil), api.OK)
 				}
 			}
-		}
-	}
-}
-
-// A page that is torn at any byte is not committed, but where all of it is there.
-func TestWriteTornAtEachByte(t *testing.T) {
-	g := api.Geometry{Blocks: 7, Pages: 20, Sector: 32, Wear: 1, Rounds: 1}
-	h := dataHead(2, 5)
-	whole, _ := plainPage(g, h, payloadOf(g, 5), tagOf(5))
-	clear(whole[len(whole)-markBytes:])
-	for at := 3; at <= 4; at++ {
-		for n := range 65 {
-			for _, mask := range [][]byte{upTo(n, 64), flip(upTo(n, 64))} {
-				p := newPair(t, fmt.Sprintf("operation %d torn at byte %d", at, n), g, crash(at, mask...))
-				p.opens(2, orderOf(1), 0)
-				p.errs("Write", p.write(0, 1, h, payloadOf(g, 5), tagOf(5)), api.ErrPower)
-				got := p.read(0)[1]
-				if _, done := page.Done(g, got, api.KindData); done != bytes.Equal(got, whole) {
-					t.Errorf("%s: committed: %v, whole: %v", p.name, done, bytes.Equal(got, whole))
-				}
-				p.hasNoOther(0, 1)
-			}
-		}
-	}
-}
-
-// hasNoOther asks that behind a page of a block nothing is.
-func (p *pair) hasNoOther(b, n int) {
-	p.t.Helper()
-	for _, rest := range p.read(b)[n+1:] {
-		if !bytes.Equal(rest, all(255, len(rest))) {
-			p.t.Fatalf("%s: something is behind page %d", p.name, n)
 		}
 	}
 }
